@@ -388,7 +388,8 @@ func TestCoefsNumbers(t *testing.T) {
 // Hidden blocks in a hidden row, in a hidden column and in both, beside the
 // last ones that are not hidden.
 func TestCoefsHidden(t *testing.T) {
-	// Units of 24 by 32; 2 by 3 blocks of 3 by 4 are needed.
+	// Units of 24 by 32: of the second plane's 1 by 4 blocks 1 by 3 are needed,
+	// of the third's 3 by 1 blocks 2 by 1.
 	f := shared(9, 17, [2]int{1, 1}, [2]int{1, 4}, [2]int{3, 1})
 	wide := shared(9, 17, [2]int{3, 3})
 	for _, x := range []struct {

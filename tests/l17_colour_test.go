@@ -2,7 +2,11 @@ package tests
 
 import (
 	"math"
+	"os"
+	"os/exec"
 	"slices"
+	"strconv"
+	"strings"
 	"sync"
 	"testing"
 
@@ -627,4 +631,140 @@ func TestColoursAtOnce(t *testing.T) {
 			}
 		}
 	}
+}
+
+// beginsBy names what a process of its own is told by, how it begins.
+const beginsBy = "COLOURS_BEGIN"
+
+// inNewProcess runs this test alone in a process of its own, in which nobody
+// asked for anything yet, and tells it how to begin.
+func inNewProcess(t *testing.T, begin string) {
+	t.Helper()
+	ask := exec.Command(os.Args[0], "-test.run=^"+t.Name()+"$", "-test.v", "-test.timeout=5m")
+	ask.Env = append(os.Environ(), beginsBy+"="+begin)
+	out, err := ask.CombinedOutput()
+	if err != nil || !strings.Contains(string(out), "--- PASS: "+t.Name()) {
+		t.Errorf("begun by %s: %v\n%s", begin, err, out)
+	}
+}
+
+// pixelsToTurn are a few of all kinds, some that are none among them.
+func pixelsToTurn() [][]int {
+	d := dice(1725)
+	pixels := append(wrongColours(), []int{0, 0, 0}, []int{255, 255, 255}, []int{4095, 4095, 4095}, []int{77, 85, 255})
+	for range 40 {
+		pixels = append(pixels, thrown(&d, 3, 0, 255), thrown(&d, 3, 0, 4095))
+	}
+	return pixels
+}
+
+// eachTurn is what ask answers of each of the pixels and of each prec, and of
+// one that is none.
+func eachTurn(ask func(prec int, px []int) []int, pixels [][]int) [][]int {
+	var all [][]int
+	for _, px := range pixels {
+		for _, prec := range []int{8, 12, 9} {
+			all = append(all, ask(prec, px))
+		}
+	}
+	return all
+}
+
+// checkTurns asks all of a turn, and answers it.
+func checkTurns(t *testing.T, when, what string) [][]int {
+	t.Helper()
+	x, pixels := turners()[what], pixelsToTurn()
+	got := eachTurn(x.of, pixels)
+	if !sameBlocks(got, eachTurn(x.rule, pixels)) {
+		t.Errorf("%s: %s answers otherwise than the chapter says", when, what)
+	}
+	return got
+}
+
+// checkAheadAndBehind asks FromYcc ahead of the first call of ToYcc, and both
+// turns behind it; this call too answers as it does later.
+func checkAheadAndBehind(t *testing.T, prec int, px []int) {
+	ahead := checkTurns(t, "ahead of the first ToYcc", "FromYcc")
+	first := impl.ToYcc(prec, px)
+	behind := checkTurns(t, "behind the first ToYcc", "FromYcc")
+	if !sameBlocks(ahead, behind) {
+		t.Error("FromYcc answers otherwise behind the first ToYcc than ahead of it")
+	}
+	checkFirst(t, prec, px, first)
+}
+
+// checkFirst asks ToYcc for what its first call answered.
+func checkFirst(t *testing.T, prec int, px, first []int) {
+	checkTurns(t, "behind the first ToYcc", "ToYcc")
+	if again := impl.ToYcc(prec, px); !slices.Equal(first, again) || !slices.Equal(first, ruleToYcc(prec, px)) {
+		t.Errorf("ToYcc of prec %d and %v: %v at first, and then %v", prec, px, first, again)
+	}
+}
+
+// checkFirstAtOnce asks both turns from goroutines that all begin together: one
+// of them is the first to ask.
+func checkFirstAtOnce(t *testing.T) {
+	begin := make(chan struct{})
+	var all sync.WaitGroup
+	for worker := range 12 {
+		all.Add(1)
+		go func() {
+			defer all.Done()
+			<-begin
+			for i := range 2 {
+				checkTurns(t, "at once", []string{"ToYcc", "FromYcc"}[(worker+i)%2])
+			}
+		}()
+	}
+	close(begin)
+	all.Wait()
+	checkTurns(t, "behind all of them", "ToYcc")
+	checkTurns(t, "behind all of them", "FromYcc")
+}
+
+// beginnings are the ways in which a process begins to ask for colours.
+func beginnings() map[string]func(t *testing.T) {
+	m := map[string]func(t *testing.T){
+		"FromYcc, then 8 bits":  func(t *testing.T) { checkAheadAndBehind(t, 8, []int{255, 0, 0}) },
+		"FromYcc, then 12 bits": func(t *testing.T) { checkAheadAndBehind(t, 12, []int{1, 4095, 7}) },
+		"FromYcc, then no prec": func(t *testing.T) { checkAheadAndBehind(t, 9, []int{1, 2, 3}) },
+	}
+	for what, x := range map[string]struct {
+		prec int
+		px   []int
+	}{
+		"ToYcc of 8 bits":    {8, []int{0, 255, 0}},
+		"ToYcc of 12 bits":   {12, []int{4095, 0, 0}},
+		"ToYcc of no prec":   {0, []int{0, 0, 0}},
+		"ToYcc of no pixel":  {8, nil},
+		"ToYcc of no number": {12, []int{0, 0, 4096}},
+	} {
+		m[what] = func(t *testing.T) {
+			first := impl.ToYcc(x.prec, x.px)
+			checkFirst(t, x.prec, x.px, first)
+			checkTurns(t, "behind the first ToYcc", "FromYcc")
+		}
+	}
+	for i := range 8 {
+		m["at once "+strconv.Itoa(i)] = checkFirstAtOnce
+	}
+	return m
+}
+
+// What is answered does not hang on whether anybody asked ahead: neither ahead
+// of the first call, nor by it, nor behind it, nor where many are the first.
+func TestColoursAtOnceFromTheFirstCall(t *testing.T) {
+	if begin := os.Getenv(beginsBy); begin != "" {
+		beginnings()[begin](t)
+		return
+	}
+	var all sync.WaitGroup
+	for begin := range beginnings() {
+		all.Add(1)
+		go func() {
+			defer all.Done()
+			inNewProcess(t, begin)
+		}()
+	}
+	all.Wait()
 }

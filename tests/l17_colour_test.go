@@ -711,6 +711,9 @@ func checkFirstAtOnce(t *testing.T) {
 		go func() {
 			defer all.Done()
 			<-begin
+			if worker%3 == 2 {
+				checkColouredAtOnce(t)
+			}
 			for i := range 2 {
 				checkTurns(t, "at once", []string{"ToYcc", "FromYcc"}[(worker+i)%2])
 			}
@@ -722,9 +725,59 @@ func checkFirstAtOnce(t *testing.T) {
 	checkTurns(t, "behind all of them", "FromYcc")
 }
 
+// checkColoured holds a stream and a picture in colour against the chapters'
+// words, without asking the program for a colour.
+func checkColoured(t *testing.T, a pictureAsked) {
+	p, o := a.p, a.o
+	p.Planes = eachPixel(p.Planes, func(px []int) []int { return ruleToYcc(p.Prec, px) })
+	o.Colour = false
+	if plain := impl.StreamFor(p, o); !sameCoefs(a.s.Coefs, plain.Coefs) {
+		t.Errorf("prec %d: another stream than the chapters say", p.Prec)
+	}
+	plain := impl.PictureOf(altered(a.s, func(s *impl.Stream) { s.Frame.Comps[0].Id = 1 }))
+	plain.Planes = eachPixel(plain.Planes, func(px []int) []int { return ruleFromYcc(p.Prec, px) })
+	if !samePicture(a.back, plain) {
+		t.Errorf("prec %d: another picture than the chapters say", p.Prec)
+	}
+}
+
+// checkPicturesFirst asks for pictures in colour ahead of the first call of
+// ToYcc, and for the same behind it.
+func checkPicturesFirst(t *testing.T) {
+	d := dice(1726)
+	var list []pictureAsked
+	for _, prec := range []int{8, 12} {
+		a := pictureAsked{p: drawnPicture(&d, prec, 20, 9, 3), o: impl.Options{Quality: 80, Colour: true, Half: prec == 8}}
+		a.f, a.s, a.b = impl.FrameFor(a.p, a.o), impl.StreamFor(a.p, a.o), impl.Compress(a.p, a.o)
+		a.back = impl.PictureOf(a.s)
+		checkColoured(t, a)
+		list = append(list, a)
+	}
+	checkTurns(t, "behind pictures", "ToYcc")
+	checkTurns(t, "behind pictures", "FromYcc")
+	for _, a := range list {
+		if !a.same() {
+			t.Errorf("prec %d: other answers behind the first ToYcc than ahead of it", a.p.Prec)
+		}
+	}
+}
+
+// checkColouredAtOnce asks for one picture in colour: red, which is told by
+// hand.
+func checkColouredAtOnce(t *testing.T) {
+	s := impl.StreamFor(tonesPicture(8, 1, 1, 255, 0, 0), impl.Options{Quality: 100, Colour: true})
+	if s.Coefs.Planes[0][0][0] != -408 || s.Coefs.Planes[1][0][0] != -344 || s.Coefs.Planes[2][0][0] != 1016 {
+		t.Error("at once: another stream", s.Coefs.Planes)
+	}
+	if got := impl.PictureOf(s); !samePicture(got, tonesPicture(8, 1, 1, 255, 0, 1)) {
+		t.Error("at once: another picture", got)
+	}
+}
+
 // beginnings are the ways in which a process begins to ask for colours.
 func beginnings() map[string]func(t *testing.T) {
 	m := map[string]func(t *testing.T){
+		"pictures, then ToYcc":  checkPicturesFirst,
 		"FromYcc, then 8 bits":  func(t *testing.T) { checkAheadAndBehind(t, 8, []int{255, 0, 0}) },
 		"FromYcc, then 12 bits": func(t *testing.T) { checkAheadAndBehind(t, 12, []int{1, 4095, 7}) },
 		"FromYcc, then no prec": func(t *testing.T) { checkAheadAndBehind(t, 9, []int{1, 2, 3}) },

@@ -336,12 +336,12 @@ func checkFault(t *testing.T, what string, b []byte, code, at int) {
 	}
 }
 
-// Of one segment SgMark, then SgMany, then SgLong, then SgEnd.
-func TestSegsTwoFaults(t *testing.T) {
+// segTwoFaults are rows of bytes with two faults, and the one that is told.
+func segTwoFaults() map[string]faultRow {
 	parts, runs := headOf(manySegs(300)), headOf(turnSegs(300))
 	restarts := headOf(append(manySegs(1), turnSegs(299)...))
 	seven := func(b []byte, n int, more ...byte) []byte { return slices.Concat(b, sevens(n), more) }
-	for what, x := range map[string]faultRow{
+	return map[string]faultRow{
 		"mark, many: none of 301":         {slices.Concat(parts, []byte{255, 248}), impl.SgMark, len(parts)},
 		"mark, many: 255 twice":           {slices.Concat(runs, []byte{255, 255}), impl.SgMark, len(runs)},
 		"mark, many: a restart":           {slices.Concat(parts, []byte{255, 240}), impl.SgMark, len(parts)},
@@ -369,7 +369,12 @@ func TestSegsTwoFaults(t *testing.T) {
 		"begin, mark":                     {[]byte("T\xff\xff"), impl.SgBegin, 0},
 		"bytes, begin":                    {sevens(impl.MaxBytes + 1), impl.SgBytes, 0},
 		"bytes, rest":                     {seven(stream(), impl.MaxBytes), impl.SgBytes, 0},
-	} {
+	}
+}
+
+// Of one segment SgMark, then SgMany, then SgLong, then SgEnd.
+func TestSegsTwoFaults(t *testing.T) {
+	for what, x := range segTwoFaults() {
 		checkFault(t, what, x.b, x.code, x.at)
 	}
 }

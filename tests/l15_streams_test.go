@@ -756,35 +756,37 @@ func TestStreamsOfManySegments(t *testing.T) {
 	}
 }
 
+// filledStream has three scans, of nearly MaxBytes bytes together; the more of
+// the first are smaller the fewer, and a note of so many.
+func filledStream(first, note int) impl.Stream {
+	s := plainStream(shared(128, 128, [2]int{1, 1}, [2]int{1, 1}, [2]int{1, 1}), 1)
+	s.Note = bytes.Repeat([]byte{255}, note)
+	for i, smaller := range []int{first, 7936, 7936} {
+		fillPlane(s.Coefs.Planes[i], smaller)
+	}
+	return s
+}
+
 // The bytes of three scans, and a note that fills them up to MaxBytes; or no
 // note, and a scan that does so.
 func TestStreamsOfManyBytes(t *testing.T) {
-	f := shared(128, 128, [2]int{1, 1}, [2]int{1, 1}, [2]int{1, 1})
-	filled := func(first, note int) impl.Stream {
-		s := plainStream(f, 1)
-		s.Note = bytes.Repeat([]byte{255}, note)
-		for i, smaller := range []int{first, 7936, 7936} {
-			fillPlane(s.Coefs.Planes[i], smaller)
-		}
-		return s
-	}
-	room := impl.MaxBytes - len(checkStreamBack(t, "no note", filled(7936, 0)))
+	room := impl.MaxBytes - len(checkStreamBack(t, "no note", filledStream(7936, 0)))
 	if !between(5, 1003, room) {
 		t.Fatal(room)
 	}
 	for _, more := range []int{-1, 0} {
-		if b := checkStreamBack(t, "a note", filled(7936, room-4+more)); len(b) != impl.MaxBytes+more {
+		if b := checkStreamBack(t, "a note", filledStream(7936, room-4+more)); len(b) != impl.MaxBytes+more {
 			t.Fatal(len(b))
 		}
-		if b := checkStreamBack(t, "a scan", filled(7936-8*(room+more), 0)); len(b) != impl.MaxBytes+more {
+		if b := checkStreamBack(t, "a scan", filledStream(7936-8*(room+more), 0)); len(b) != impl.MaxBytes+more {
 			t.Fatal(len(b))
 		}
 	}
 	for _, more := range []int{1, 2} {
-		checkTooMuch(t, "a note", filled(7936, room-4+more))
-		checkTooMuch(t, "a scan", filled(7936-8*(room+more), 0))
+		checkTooMuch(t, "a note", filledStream(7936, room-4+more))
+		checkTooMuch(t, "a scan", filledStream(7936-8*(room+more), 0))
 	}
-	checkTooMuch(t, "a note and a scan", filled(7936-8*room, 1))
+	checkTooMuch(t, "a note and a scan", filledStream(7936-8*room, 1))
 }
 
 // What was written with other codes than the best ones, or with more behind

@@ -85,7 +85,7 @@ func feedRule(f impl.Feed) bool {
 
 func rulePush(f impl.Feed, chunk []byte) impl.Feed {
 	if !feedRule(f) {
-		f = impl.Feed{}
+		return impl.Feed{}
 	}
 	if f.Fault.Code != 0 {
 		return f
@@ -919,6 +919,8 @@ func wrongFeeds() map[string]impl.Feed {
 		"one more, as a rest":            {Bytes: append(bytes.Clone(full), 7), Whole: 3, Over: true, Fault: rest},
 		"one more, no beginning":         {Bytes: make([]byte, impl.MaxBytes+1), Fault: impl.Fault{Code: 2}},
 		"MaxBytes as if it were none":    {Bytes: full},
+		"Whole of one byte":              {Bytes: []byte("T"), Whole: 1},
+		"SgBegin of the beginning":       {Bytes: []byte("TS"), Fault: impl.Fault{Code: 2}},
 		"a stream that is not over":      {Bytes: stream(255, 7, 0, 0), Whole: 1},
 		"one that is over too early":     {Bytes: []byte("TS\xff\x07\x00\x00\xff"), Whole: 1, Over: true},
 		"run data that are not whole":    {Bytes: []byte("TS\xff\x07\x00\x00\x05\xff"), Whole: 2},
@@ -930,18 +932,49 @@ func wrongFeeds() map[string]impl.Feed {
 	}
 }
 
-// Into a Feed that is none pieces are pushed as into the zero Feed.
+// isZeroFeed tells whether nothing at all is told.
+func isZeroFeed(f impl.Feed) bool {
+	return cap(f.Bytes) == 0 && f.Whole == 0 && !f.Over && f.Fault == (impl.Fault{})
+}
+
+// Into a Feed that is none nothing is pushed: the zero Feed is told, whatever
+// comes. What comes behind it is told as from the beginning.
 func TestFeedsThatAreNotOk(t *testing.T) {
 	b := impl.WriteStream(handStream())
 	for what, f := range wrongFeeds() {
 		checkFeedOk(t, what, f, false)
-		for _, chunk := range [][]byte{nil, {}, {84}, {83}, []byte("TS\xff"), b, b[2:], make([]byte, impl.MaxBytes), make([]byte, impl.MaxBytes+1)} {
-			if got := checkPush(t, what, f, chunk); !sameFeed(got, impl.Push(impl.Feed{}, chunk)) {
+		for _, chunk := range [][]byte{nil, {}, {1}, {83}, {84}, []byte("TS"), []byte("TS\xff"), stream(), stream(255, 7, 0, 0), b, b[2:], make([]byte, impl.MaxBytes), make([]byte, impl.MaxBytes+1)} {
+			got := checkPush(t, what, f, chunk)
+			if !isZeroFeed(got) {
 				t.Fatalf("%s, and %d bytes: %s", what, len(chunk), feedShown(got))
+			}
+			if next := impl.Push(got, chunk); !sameFeed(next, ruleFeed(chunk)) && len(chunk) < 9000 {
+				t.Fatalf("%s, and %d bytes twice: %s", what, len(chunk), feedShown(next))
 			}
 		}
 		if s, fault := impl.FeedEnd(f); fault != (impl.Fault{Code: 2}) || !isZeroStream(s) {
 			t.Fatalf("%s: %v", what, fault)
+		}
+	}
+}
+
+// A Feed may tell already what its bytes tell with the piece behind them: it is
+// not FeedOk, and the piece does not mend it.
+func TestPiecesThatAFeedTellsAheadOfThem(t *testing.T) {
+	x := feeding([]impl.Seg{segPart(7, 1), segRun(5, 6), segRestart(240), segRun(8)})
+	for n := range len(x.text) + 1 {
+		for m := n + 1; m <= len(x.text); m++ {
+			f := x.upTo(m)
+			f.Bytes = x.text[:n]
+			ok := sameFeed(f, x.upTo(n))
+			checkFeedOk(t, "told ahead", f, ok)
+			want := impl.Feed{}
+			if ok {
+				want = x.upTo(m)
+			}
+			if got := checkPush(t, "told ahead", f, x.text[n:m]); !sameFeed(got, want) {
+				t.Fatalf("%d of %d bytes: %s, and not %s", n, m, feedShown(got), feedShown(want))
+			}
 		}
 	}
 }
